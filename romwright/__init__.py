@@ -1,0 +1,1 @@
+"""Romwright: programs for small machines, linked by names."""
