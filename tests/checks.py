@@ -2,6 +2,7 @@
 
 import unittest
 
+from romwright.joining import joined, Program
 from romwright.units import Section, Unit
 
 
@@ -39,3 +40,19 @@ def kept(name, **words):
 
 def unit(name, *sections):
     return Unit(name, sections)
+
+
+def program(items, *others, symbols=(), exports=()):
+    """A program of one unit u with the section main of these instructions, which begins at `begin`."""
+    first = code("main", [*items, ("halt",)], [("begin", 0), *symbols], exports)
+    return joined([unit("u", first, *others)], "begin")
+
+
+def overlaid(made, parts):
+    """A joined program with parts for some of its sections, told by their names."""
+    rows = [parts.get(section.name) for section in made.sections]
+    return Program(made.sections, made.entry, made.exports, made.wants, made.cells, rows)
+
+
+def pushes(*words):
+    return [("push", word) for word in words]

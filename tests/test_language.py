@@ -170,8 +170,7 @@ class Language(unittest.TestCase):
             if isinstance(node.func, ast.Attribute):
                 self.assertNotIn(node.func.attr, ("sort", "intersection", "union"))
             elif isinstance(node.func, ast.Name):
-                self.assertNotIn(node.func.id, ("iter", "chr", "print", "filter", "map", "set", "type", "round"), name) \
-                    if not (node.func.id == "iter") else None
+                self.assertNotIn(node.func.id, ("chr", "print", "filter", "map", "type", "round"), name)
                 if node.func.id == "reversed":
                     self.assertEqual(ast.unparse(node.args[0].func) in ("list", "range", "sorted", "tuple"), True)
 
