@@ -81,7 +81,8 @@ class ExprReader:
             return False
         level = LEVELS[word]
         self.fold(level)
-        if word in COMPARISONS and len(self.waiting) > 0 and self.waiting[-1][0] == level:
+        # What is folded leaves no operator of this level, but for another comparison.
+        if len(self.waiting) > 0 and self.waiting[-1][0] == level:
             return False
         self.waiting.append((level, word))
         self.due = True
@@ -113,7 +114,7 @@ class ExprReader:
 
     def whole(self):
         """The tree, or None if the expression cannot end here."""
-        if self.due or self.fact is not None:
+        if self.due:
             return None
         self.fold(1)
         return self.trees[0] if len(self.waiting) == 0 else None
@@ -137,9 +138,7 @@ def level_of(tree):
     """How tight a tree is written: by its topmost operator."""
     if len(tree) == 3:
         return LEVELS[tree[0]]
-    if tree[0] == "not":
-        return NOT_LEVEL
-    return MINUS_LEVEL if tree[0] == "minus" else MINUS_LEVEL + 1
+    return NOT_LEVEL if tree[0] == "not" else MINUS_LEVEL
 
 
 def write_expr(tree):

@@ -69,7 +69,7 @@ class Events(Checks):
         wrong = [(), ("start", 1), ("lost", 1), ("feed",), ("feed", 1, 2), ("answer",), ("answer", 1),
                  ("answer", [1]), ("answer", (1,), 2), ("call",), ("call", "f"), ("call", "f", [1]), ("call", "f", ()),
                  ("call", "f", (1, 2)), ("call", "g", (1,)), ("call", "begin", ()), ("call", None, (1,)),
-                 ("call", "f", 1), ("call", "f", (1,), 1), "start", None, ["start"], ["feed", 1], 5, ("stop",),
+                 ("call", "f", 1), ("call", "f", (1,), 1), ("calls", "f", (1,)), "start", None, ["start"], ["feed", 1], 5, ("stop",),
                  (None,), (["start"],)]
         for word in (-1, 65536, True, False, None, "1", (1,)):
             wrong += [("feed", word), ("answer", (word,)), ("answer", (1, word)), ("call", "f", (word,))]
@@ -447,6 +447,17 @@ class Standings(Checks):
                 self.assertEqual([other.standing(), other.record, other.steps],
                                  [device.standing(), device.record, device.steps - steps])
                 self.assertEqual(other.printed_at, device.printed_at)
+
+    def test_cells_and_parts_are_told(self):
+        items = [("bring", "x"), ("ask",), ("name", "x", 1), ("store",), ("ask",), ("name", "x", 1), ("load",), ("add",),
+                 ("out",), ("name", "y", 0), ("load",)]
+        made = overlaid(program(items, cells("d", "data", [1, 2], [("x", 0)]), cells("e", "data", [1], [("y", 0)])),
+                        {"u.d": (0, 3), "u.e": (0, 4)})
+        device = Lone(made)
+        device.meet(START)
+        device.meet(feed(8))
+        other = Lone.from_standing(made, {}, device.standing())
+        self.assertEqual(other.meet(feed(5)), (("print", 13), ("hangs",)))
 
     def test_each_kind(self):
         made = server([("out",)], 1, 0)

@@ -51,12 +51,12 @@ class Meanings(Checks):
         main = code("main", [("go", "m"), ("unless", "m"), ("call", "m"), ("bring", "m"), ("bring", "x"),
                              ("name", "x", 5), ("push", 7), ("far", "p", "x", 0, 1), HALT],
                     [("begin", 1), ("m", 8)])
-        table = cells("t", "const", [3, ("at", "x", 65534), ("at", "e", 1)], [("e", 3)])
+        table = cells("t", "const", [3, ("at", "x", 65534), ("at", "e", 1), ("at", "e", 65535)], [("e", 3)])
         program = joined([unit("a", main, table, kept("k", x=1, y=2), cells("z", "zero", [0, 0], [("f", 2)]))], "begin")
         self.assertEqual(body_of(program, "a.main"),
                          (("go", 0, 8), ("unless", 0, 8), ("call", 0, 8), ("bring", 0), ("bring", 2), ("name", 2, 5),
                           ("push", 7), ("far", 0), HALT))
-        self.assertEqual(body_of(program, "a.t"), (3, ("at", 2, 65534), ("at", 1, 4)))
+        self.assertEqual(body_of(program, "a.t"), (3, ("at", 2, 65534), ("at", 1, 4), ("at", 1, 2)))
         self.assertEqual(body_of(program, "a.z"), (0, 0))
         self.assertEqual(program.entry, (0, 1))
 
@@ -157,6 +157,7 @@ class Limits(Checks):
     def test_twice(self):
         rows = [unit(name) for name in ("b", "c", "a", "c", "b")]
         self.fails(Twice, "b", joined, rows, "begin")
+        self.fails(Twice, "a", joined, [unit("a"), unit("a")], "begin")
         self.fails(TooMany, 12, joined, rows * 3, "begin")
         first = unit("a", cells("s", "zero", [0], [("z", 0), ("m", 0), ("k", 0)]))
         second = unit("b", cells("s", "zero", [0], [("m", 0), ("z", 0), ("k", 0, "weak"), ("b", 0)]))

@@ -222,6 +222,14 @@ class Ways(Parted):
         made = program([("ask",)], section, cells("d", "data", [1], [("x", 0)]))
         self.check_pair(made, [START, ("call", "f", ())])
 
+    def test_products(self):
+        """Whatever the words are: also where one step higher would give a product as an address moves."""
+        for offset in [*range(65470, 65536), *range(70)]:
+            made = program([("name", "x", offset), ("name", "y", 0), ("mul",)], *self.others())
+            self.check_pair(made, [START])
+            made = program([("name", "x", offset), ("name", "x", offset), ("mul",)], *self.others())
+            self.check_pair(made, [START])
+
     def test_few_sections(self):
         for items in (pushes(5) + [("load",)], pushes(65534) + [("load",)], pushes(1) + [("load",)]):
             self.check_pair(program(items), [START])
@@ -255,8 +263,12 @@ class NoHangs(Parted):
         made = program([("ask",)])
         for events in ([], [START], (START, ("feed", 1))):
             self.fails(NoHang, len(events), parting, made, events)
-        self.fails(BadEvent, ("feed", -1), parting, made, [START, ("feed", -1)])
-        self.fails(NotNow, ("lost",), parting, made, [START, ("lost",)])
+        asks = made
+        # A row of events hangs at its last one, and at no other.
+        made = program(pushes(5) + [("load",)])
+        self.fails(NoHang, 2, parting, made, [START, START])
+        self.fails(BadEvent, ("feed", -1), parting, asks, [START, ("feed", -1)])
+        self.fails(NotNow, ("lost",), parting, asks, [START, ("lost",)])
 
 
 class Chance(Parted):

@@ -103,6 +103,15 @@ class Whole(Checks):
         self.assertEqual(first.lines(), [ROM, RAM, ENTRY, "let a be 1 + 2", "claim a"])
         self.assertNotEqual(first.statements[2], ENTRY)
 
+    def test_equality_of_each_kind(self):
+        lines = [line.replace("let used be", "let lot be") for line in WHOLE]
+        first, second = Script(lines), Script(lines)
+        for k, each in enumerate(first):
+            for j, other in enumerate(second):
+                self.assertIs(each == other, k == j)
+                self.assertIs(each != other, k != j)
+            self.assertFalse(each == lines[k] or each is None or each == 5)
+
     def test_extended(self):
         first = script()
         lines = ["claim 1", "place p in rom align 1 fill 0 take *.*"]
@@ -158,6 +167,8 @@ class Forms(Checks):
                    "place p in ram load rom align 2 fill 1 take *.[code]")
         self.wrong("place p in rom align 3 fill 0 take a.b", "place p in rom align 1 fill 65536 take a.b",
                    "place p in rom align 1 fill 0 take", "place p in rom align 1 fill 0", "place p in rom fill 0 take a.b",
+                   "place p in rom aligned 1 fill 0 take a.b", "place p in rom align 1 filled 0 take a.b",
+                   "place p in rom align", "place p in rom align 1", "place p in rom align 1 fill",
                    "place p rom align 1 fill 0 take a.b", "place P in rom align 1 fill 0 take a.b",
                    "place p in Rom align 1 fill 0 take a.b", "place p in rom ram align 1 fill 0 take a.b",
                    "place p in ram load align 1 fill 0 take a.b", "place p in ram load Rom align 1 fill 0 take a.b",
@@ -172,7 +183,7 @@ class Forms(Checks):
                         "code.kept"):
             self.right(f"place p in rom align 1 fill 0 take a.b {pattern}", f"keep {pattern}")
         for pattern in ("a", "a.", ".a", "a.b.c", "*", "**.a", "a.[Code]", "a.[code", "a.code]", "a.[]", "[code].a",
-                        "a.[x]", "A.b", "a.B", "a.1b", "abcdefghij.a", "a.*b", "a.[[code]]", "", "a.b,", "..", "*.[*]"):
+                        "a.(code)", "a.[code)", "a.(code]", "a.[x]", "A.b", "a.B", "a.1b", "abcdefghij.a", "a.*b", "a.[[code]]", "", "a.b,", "..", "*.[*]"):
             self.wrong(f"place p in rom align 1 fill 0 take a.b {pattern}", f"keep {pattern}")
 
     def test_free(self):
@@ -184,6 +195,8 @@ class Forms(Checks):
         self.assertEqual(made["f"].regions, ("align",))
         self.assertEqual(made.lines()[1], "free f in align align 4 fill 0 take a.b")
         self.wrong("free f in align 1 fill 0 take a.b", "free f in rom fill 0 take a.b", "free f in rom Ram align 1 fill 0 take a.b",
+                   "free f at rom align 1 fill 0 take a.b", "free f in Rom align 1 fill 0 take a.b", "free f in rom align 1",
+                   "free f in rom align 1 fills 0 take a.b",
                    "free f rom align 1 fill 0 take a.b", "free f in rom align 5 fill 0 take a.b",
                    "free f in rom align 1 fill 0 take", "free F in rom align 1 fill 0 take a.b", "free f in rom",
                    "free f in rom align align 1 fill 0 take a.b", "free f", "free f in")

@@ -52,6 +52,7 @@ class Table(Checks):
     def test_memory(self):
         self.leaves([("name", "x", 1), ("load",)], 8)
         self.leaves(pushes(9) + [("name", "x", 1), ("store",), ("name", "x", 1), ("load",)], 9)
+        self.leaves(pushes(4, 9) + [("name", "x", 1), ("store",)], 4)
         run = ended([("name", "x", 0), ("name", "x", 0), ("store",)], cells("d", "data", [1, 2], [("x", 1)]))
         self.assertEqual([run.kind, run.cell(1, 0), run.cell(1, 1)], ["done", 1, (1, 1)])
 
@@ -204,6 +205,12 @@ class Overlays(Checks):
         run = self.run_of([("bring", "fa")] + store + [("bring", "db"), ("bring", "fa")] + show)
         self.assertEqual(run.prints, [5])
 
+    def test_other_sections_stay(self):
+        made = self.make(pushes(9) + [("name", "db", 0), ("store",), ("bring", "fa"), ("name", "db", 0), ("load",), ("out",)],
+                         {"u.fa": (0, 0), "u.da": (0, 0)})
+        run = Run(made)
+        self.assertEqual([run.go(99), run.prints], ["done", [9]])
+
     def test_cells_of_parts_that_are_not_there(self):
         for items in ([("name", "da", 0), ("load",)], pushes(1) + [("name", "da", 0), ("store",)]):
             self.assertEqual(self.run_of(items).kind, "hangs")
@@ -237,6 +244,9 @@ class Overlays(Checks):
         run = Run(self.make([("name", "da", 0), ("name", "db", 0), ("same",), ("out",)],
                             {"u.da": (0, 1), "u.db": (0, 1)}))
         self.assertEqual([run.go(9), run.prints], ["done", [0]])
+        for parts in ({"u.da": (0, 1), "u.db": (1, 0)}, {"u.da": (0, 1)}, {"u.db": (0, 1)}):
+            run = Run(self.make([("name", "da", 0), ("name", "db", 0), ("same",), ("out",)], parts))
+            self.assertEqual([run.go(9), run.prints], ["done", [0]])
 
 
 if __name__ == "__main__":

@@ -188,6 +188,8 @@ class Wrong(Checks):
         self.fails(BadLine, 4, read_unit, text_of("code", "halt", "push 1", "export a 0 0"))
         self.fails(BadLine, 2, read_unit, text_of("code", "section b zero 1 free"))
         self.fails(BadLine, 2, read_unit, text_of("code", "export a 0 0"))
+        self.fails(BadLine, 4, read_unit, text_of("code", "global a", "push 1", "export a 0 0", "halt"))
+        self.fails(BadLine, 4, read_unit, text_of("code", "halt", "global a", "export a 0 0", "halt"))
 
     def test_exports(self):
         head = ["global a", "global b", "local c", "weak d", "halt"]
