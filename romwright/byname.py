@@ -9,12 +9,12 @@ class Memory:
 
     def __init__(self, program, record):
         self.program = program
-        self.cells = [fresh_cells(section) for section in program.sections]
+        self.held = [fresh_cells(section) for section in program.sections]
         # For each group of which a part is present, the number of the part.
         self.present = {}
         for name, number, place in program.cells:
             if record is not None and name in record:
-                self.cells[number][place] = record[name]
+                self.held[number][place] = record[name]
 
     def has(self, number):
         """Whether a section is there: it belongs to no part, or to one that is present."""
@@ -28,7 +28,7 @@ class Memory:
         part = self.program.parts[number]
         for each, section in enumerate(self.program.sections):
             if self.program.parts[each] == part:
-                self.cells[each] = fresh_cells(section)
+                self.held[each] = fresh_cells(section)
         self.present[part[0]] = part[1]
 
 
@@ -74,7 +74,7 @@ class NameRun(Stepper):
         if offset >= self.program.sections[number].size or not self.memory.has(number):
             self.kind = "hangs"
             return None
-        return self.memory.cells[number][offset]
+        return self.memory.held[number][offset]
 
     def write_cell(self, address, value):
         """Whether a value could be stored; otherwise the run has been stopped."""
@@ -91,7 +91,7 @@ class NameRun(Stepper):
         elif section.kind == "const":
             fault(self, "astray")
         else:
-            self.memory.cells[number][offset] = value
+            self.memory.held[number][offset] = value
             return True
         return False
 
@@ -100,7 +100,7 @@ class NameRun(Stepper):
 
     def kept_cells(self):
         """The pairs (name, value) of the kept cells, ascending."""
-        return [(name, self.memory.cells[number][place]) for name, number, place in self.program.cells]
+        return [(name, self.memory.held[number][place]) for name, number, place in self.program.cells]
 
 
 def fresh_cells(section):

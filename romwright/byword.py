@@ -19,14 +19,14 @@ class Store:
                 self.words[address] = record[name]
 
     def put_in(self, stretches):
-        for first, words, mark in stretches:
-            for offset, word in enumerate(words):
+        for first, row, mark in stretches:
+            for offset, word in enumerate(row):
                 self.words[first + offset] = word
                 self.marks[first + offset] = mark
 
     def take_out(self, stretches):
-        for first, words, _ in stretches:
-            for offset in range(len(words)):
+        for first, row, _ in stretches:
+            for offset in range(len(row)):
                 del self.words[first + offset]
 
     def bring(self, number):

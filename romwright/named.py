@@ -32,7 +32,7 @@ class Run(NameRun):
         return self.wanted
 
     def cell(self, number, place):
-        return self.memory.cells[number][place]
+        return self.memory.held[number][place]
 
 
 class Lone(Meeter):
@@ -90,7 +90,7 @@ def cells_there(memory):
     rows = []
     for number, section in enumerate(memory.program.sections):
         counts = section.kind in ("data", "zero", "kept") and memory.has(number)
-        rows.append(tuple(memory.cells[number]) if counts else None)
+        rows.append(tuple(memory.held[number]) if counts else None)
     return tuple(rows)
 
 
@@ -107,7 +107,7 @@ def stand(device, standing):
         run.memory.present[group] = part
     for number, cells in enumerate(standing[1]):
         if cells is not None:
-            run.memory.cells[number] = list(cells)
+            run.memory.held[number] = list(cells)
     if device.kind != "done":
         run.place = standing[3]
         run.pile = list(standing[4])

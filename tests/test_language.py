@@ -155,7 +155,7 @@ class Language(unittest.TestCase):
             names = [each.name for each in node.body if isinstance(each, ast.FunctionDef)]
             if "__getitem__" in names:
                 self.assertIn("__iter__", names, node.name)
-            self.assertEqual(len([each for each in names if each not in ()]), len(names))
+            self.assertEqual(len(set(names)), len(names), node.name)
 
     def test_errors(self):
         own = [node.name for node in TREES["plain.py"].body if isinstance(node, ast.ClassDef)]
