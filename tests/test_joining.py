@@ -128,6 +128,20 @@ class Facts(Checks):
         self.assertNotEqual(program, joined(self.make()[:1], "f"))
         self.assertNotEqual(program, None)
 
+    def test_equality_of_sections(self):
+        """Programs that differ in one thing of one section."""
+        def make(items=(("push", 1), HALT), kind="data", cell=5, name="d", **more):
+            return joined([unit("a", code("c", items, [("begin", 0)], **more), cells(name, kind, [cell]))], "begin")
+
+        first = make()
+        self.assertEqual(first, make())
+        self.assertEqual(first.sections[0], make().sections[0])
+        for other in (make([("push", 2), HALT]), make(cell=6), make(kind="const"), make(name="e"), make(align=2),
+                      make(fixed=True)):
+            self.assertNotEqual(first, other)
+            self.assertNotEqual(first.sections, other.sections)
+        self.assertNotEqual(first.sections[0], None)
+
     def test_hidden_weak_symbols(self):
         """A weak symbol that its name does not mean is hidden; the global one counts."""
         first = unit("a", code("c", [HALT, HALT], [("s", 1, "weak"), ("begin", 0)]))

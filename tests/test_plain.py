@@ -106,6 +106,9 @@ class Names(Checks):
         )
         for words in wrong:
             self.assertIsNone(words_name(words))
+        # What is not three words packs none, either.
+        for words in ((), (1600,), (1600, 0), (1600, 0, 0, 0), (1600, 0, -1), (1600, 0, 65536), (1600, 0, False)):
+            self.assertIsNone(words_name(words))
 
     def test_all_first_words(self):
         named = [word for word in range(65536) if words_name((word, 0, 0)) is not None]

@@ -37,6 +37,14 @@ def script(*lines):
     return Script([ROM, RAM, ENTRY, *lines])
 
 
+class Example(Checks):
+    def test_example(self):
+        lines = ["region flash rom 16 100", "region work ram 1 20", "place text in flash align 1 fill 0 take *.[code]",
+                 "place vars in work load flash align 1 fill 0 take *.[kept]", "entry begin"]
+        made = Script(lines)
+        self.assertEqual([made.lines(), made.entry, made["vars"].load], [lines, "begin", "flash"])
+
+
 class Whole(Checks):
     def test_lines(self):
         self.fails(BadStatement, 16, Script, WHOLE)
