@@ -26,9 +26,9 @@ class Memory:
         if self.has(number):
             return
         part = self.program.parts[number]
-        for each, section in enumerate(self.program.sections):
-            if self.program.parts[each] == part:
-                self.held[each] = fresh_cells(section)
+        numbers = [each for each, other in enumerate(self.program.parts) if other == part]
+        for each in numbers:
+            self.held[each] = fresh_cells(self.program.sections[each])
         self.present[part[0]] = part[1]
 
 

@@ -262,14 +262,14 @@ def ring_from(start, after):
     """The shortest ring that begins with this name and has no lesser one, of several the least; or None."""
     paths = [(start,)]
     met = {start: True}
-    while len(paths) > 0:
-        longer = []
-        for path in paths:
-            for name in after[path[-1]]:
-                if name == start:
-                    return path
-                if name > start and name not in met:
-                    met[name] = True
-                    longer.append(path + (name,))
-        paths = longer
+    at = 0
+    while at < len(paths):
+        path = paths[at]
+        at += 1
+        for name in after[path[-1]]:
+            if name == start:
+                return path
+            if name > start and name not in met:
+                met[name] = True
+                paths.append(path + (name,))
     return None

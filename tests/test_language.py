@@ -15,6 +15,7 @@ isupper items join keys ljust lower lstrip partition pop remove replace reverse 
 setdefault split splitlines startswith strip update upper values zfill bit_length add discard""".split()
 NO_ATTRIBUTES = """items keys values pop update append clear extend insert remove reverse setdefault sort args encode
 decode hex fromhex format""".split()
+MODIFYING = "append clear extend insert pop remove reverse setdefault update add discard".split()
 OTHERS = {"heapq": ("heappush", "heappop"), "itertools": ("product", "combinations", "permutations", "chain")}
 STATEMENTS = (ast.Assign, ast.AugAssign, ast.If, ast.While, ast.For, ast.Return, ast.Break, ast.Continue, ast.Pass,
               ast.Raise, ast.Delete, ast.Try, ast.Expr, ast.FunctionDef, ast.ClassDef, ast.ImportFrom, ast.With)
@@ -34,6 +35,46 @@ TREES = {name: ast.parse(text_of(name)) for name in files()}
 
 def nodes(kind):
     return [(name, node) for name in TREES for node in ast.walk(TREES[name]) if isinstance(node, kind)]
+
+
+def root_of(node):
+    while isinstance(node, (ast.Attribute, ast.Subscript)):
+        node = node.value
+    return node.id if isinstance(node, ast.Name) else None
+
+
+def roots(node):
+    """The names that what a loop walks begins with; a list(..) is another list."""
+    if isinstance(node, ast.Call):
+        if isinstance(node.func, ast.Name):
+            return [] if node.func.id in ("list", "range", "sorted", "tuple") else [
+                root for part in node.args for root in roots(part)]
+        return [root_of(node.func)]
+    return [root_of(node)]
+
+
+def changes(statement):
+    """The names through which a statement changes an item or an attribute, or a list."""
+    found = []
+    for node in ast.walk(statement):
+        if isinstance(node, (ast.Attribute, ast.Subscript)) and not isinstance(node.ctx, ast.Load):
+            found.append(root_of(node))
+        elif isinstance(node, ast.Call) and isinstance(node.func, ast.Attribute) and node.func.attr in MODIFYING:
+            found.append(root_of(node.func))
+    return [name for name in found if name]
+
+
+def aliases(function):
+    """For names that are assigned each other, one name for all of them."""
+    same = {}
+    for node in ast.walk(function):
+        if isinstance(node, ast.Assign) and isinstance(node.value, ast.Name):
+            for target in node.targets:
+                if isinstance(target, ast.Name):
+                    old, new = (same.get(each, each) for each in (target.id, node.value.id))
+                    same = {each: new if same[each] == old else same[each] for each in same}
+                    same[target.id] = same[node.value.id] = new
+    return same
 
 
 class Language(unittest.TestCase):
@@ -156,6 +197,17 @@ class Language(unittest.TestCase):
             if "__getitem__" in names:
                 self.assertIn("__iter__", names, node.name)
             self.assertEqual(len(set(names)), len(names), node.name)
+
+    def test_loops(self):
+        """What a loop walks is not changed in it: not by a name that may mean the same list, nor through its object."""
+        for name, function in nodes(ast.FunctionDef):
+            same = aliases(function)
+            for loop in ast.walk(function):
+                if not isinstance(loop, ast.For):
+                    continue
+                walked = {same.get(root, root) for root in roots(loop.iter)}
+                changed = {same.get(root, root) for each in loop.body for root in changes(each)}
+                self.none([(name, loop.lineno, root) for root in sorted(walked & changed)])
 
     def test_errors(self):
         own = [node.name for node in TREES["plain.py"].body if isinstance(node, ast.ClassDef)]
