@@ -62,9 +62,9 @@ class Names:
             if binding == "local":
                 self.local[(unit, name)] = (number, place)
             elif binding == "global":
-                self.seen[name] = (number, place)
-            elif name not in self.weak:
-                self.weak[name] = (number, place)
+                self.seen.setdefault(name, (number, place))
+            else:
+                self.weak.setdefault(name, (number, place))
 
     def outside(self, name):
         """What the name means from outside, or None."""
@@ -164,9 +164,14 @@ def target_of(target, op, name, kinds):
     """The target of a reference by this op, if it can lead there."""
     if target is None:
         raise Missing(name)
-    if op != "bring" and (kinds[target[0]] == "code") != (op in BRANCHES):
+    if not can_lead(op, kinds[target[0]]):
         raise Unlike(name)
     return target
+
+
+def can_lead(op, kind):
+    """Whether a reference by this op can lead to a section of this kind."""
+    return op == "bring" or (kind == "code") == (op in BRANCHES)
 
 
 def bound_entry(name, names, kinds):

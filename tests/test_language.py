@@ -43,14 +43,22 @@ def root_of(node):
     return node.id if isinstance(node, ast.Name) else None
 
 
+def tokens(node):
+    """The name that a path begins with, and the attribute that it ends in; of f(..).x and the like, what there is."""
+    while isinstance(node, ast.Subscript):
+        node = node.value
+    end = ["." + node.attr] if isinstance(node, ast.Attribute) else []
+    return end + [root_of(node)]
+
+
 def roots(node):
-    """The names that what a loop walks begins with; a list(..) is another list."""
+    """The tokens of what a loop walks; a list(..) is another list."""
     if isinstance(node, ast.Call):
         if isinstance(node.func, ast.Name):
             return [] if node.func.id in ("list", "range", "sorted", "tuple") else [
                 root for part in node.args for root in roots(part)]
-        return [root_of(node.func)]
-    return [root_of(node)]
+        return tokens(node.func.value)
+    return tokens(node)
 
 
 def changes(statement):
@@ -58,9 +66,9 @@ def changes(statement):
     found = []
     for node in ast.walk(statement):
         if isinstance(node, (ast.Attribute, ast.Subscript)) and not isinstance(node.ctx, ast.Load):
-            found.append(root_of(node))
+            found.extend(tokens(node))
         elif isinstance(node, ast.Call) and isinstance(node.func, ast.Attribute) and node.func.attr in MODIFYING:
-            found.append(root_of(node.func))
+            found.extend(tokens(node.func.value))
     return [name for name in found if name]
 
 
@@ -182,7 +190,8 @@ class Language(unittest.TestCase):
         plain = {node.name for _, node in methods if node.name not in properties}
         self.none(sorted(stored & set(NO_ATTRIBUTES)))
         self.none(sorted(set(properties) & (stored | plain)))
-        self.none(sorted(plain & stored))
+        # The interface has these as methods of one class and as attributes of others.
+        self.none(sorted((plain & stored) - {"address"}))
         own = dir("") + dir(0) + dir([]) + dir({}) + dir(set()) + dir(b"")
         names = [name for name in own if not name.startswith("__")]
         self.none(sorted([name for name in plain if name in names and name not in LISTED]))
