@@ -12,6 +12,8 @@ class Memory:
         self.held = [fresh_cells(section) for section in program.sections]
         # For each group of which a part is present, the number of the part.
         self.present = {}
+        # The sections whose instructions were done, or whose addresses were on a stack.
+        self.used = {}
         for name, number, place in program.cells:
             if record is not None and name in record:
                 self.held[number][place] = record[name]
@@ -44,6 +46,7 @@ class NameRun(Stepper):
         """Does one step of a run that runs."""
         self.steps += 1
         number, place = self.place
+        self.memory.used[number] = True
         if not self.memory.has(number):
             self.kind = "hangs"
             return
@@ -54,6 +57,9 @@ class NameRun(Stepper):
         elif len(item) == 3:
             operand = item[1:]
         perform(self, item[0], operand, (number, place + 1))
+        # Below the top there are only values that were on top before.
+        if len(self.pile) > 0 and isinstance(self.pile[-1], tuple):
+            self.memory.used[self.pile[-1][0]] = True
 
     def combine(self, op, left, right):
         return combined(self.program, op, left, right)

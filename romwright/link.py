@@ -58,20 +58,31 @@ def bring_number(picked, number):
 
 def linked_words(laying, number):
     """The words of a section with its veneers, a tuple."""
-    section = laying.picked.program.sections[number]
     words = []
+    for row in item_words_of(laying, number) + veneer_words(laying, number):
+        words.extend(row)
+    return tuple(words)
+
+
+def item_words_of(laying, number):
+    """The words of each item of a section, a list."""
+    section = laying.picked.program.sections[number]
+    rows = []
     for place, item in enumerate(section.body):
         if isinstance(item, int):
-            words.append(item)
+            rows.append((item,))
         elif section.kind != "code":
-            words.append(value_at(laying, item))
+            rows.append((value_at(laying, item),))
         elif item[0] in BRANCHES:
-            words.extend(branch_words(laying, number, place, item))
+            rows.append(branch_words(laying, number, place, item))
         else:
-            words.extend(plain_words(laying, item))
-    for target in veneers_in(laying, number):
-        words.extend(code_words("hop", laying.address(target[0], target[1])))
-    return tuple(words)
+            rows.append(plain_words(laying, item))
+    return rows
+
+
+def veneer_words(laying, number):
+    """The words of each veneer of a section, a list."""
+    return [code_words("hop", laying.address(target[0], target[1])) for target in veneers_in(laying, number)]
 
 
 def value_at(laying, item):

@@ -18,6 +18,8 @@ class Meeter:
         self.kind = "off"
         self.reason = None
         self.confirmed = False
+        # The steps that were done when it confirmed for the first time since its last start.
+        self.confirmed_at = None
         self.steps = 0
         self.printed_at = ()
         # The run of the last start, and the one that met the last event: this one or a call from afar.
@@ -36,6 +38,7 @@ def meet_event(device, event):
     if event[0] == "start":
         device.steps = 0
         device.confirmed = False
+        device.confirmed_at = None
         device.run = device.fresh_run()
         device.active = device.run
     elif event[0] == "call":
@@ -100,7 +103,9 @@ def carry(device, run, leaves):
         if run.kind == "saves":
             save_cells(device, run, seen)
         elif run.kind == "confirms":
-            device.confirmed = True
+            if not device.confirmed:
+                device.confirmed = True
+                device.confirmed_at = device.steps
             seen.append(("confirm",))
             given(run, ())
         elif device.limit is not None and not device.confirmed and device.steps >= device.limit:

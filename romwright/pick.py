@@ -161,3 +161,8 @@ def seen_section(library, number):
     exports = [export for export in section.exports if export[0] in names]
     return Section(section.name, section.kind, section.body, align=section.align, fixed=section.fixed,
                    symbols=symbols, exports=exports)
+
+
+def sections_of(picked):
+    """The sections of the kept units, in the order of the program."""
+    return [section for unit in picked.units for section in unit.sections]

@@ -219,7 +219,8 @@ class Language(unittest.TestCase):
                 self.none([(name, loop.lineno, root) for root in sorted(walked & changed)])
 
     def test_errors(self):
-        own = [node.name for node in TREES["plain.py"].body if isinstance(node, ast.ClassDef)]
+        own = [node.name for name in ("plain.py", "wording.py") for node in TREES[name].body
+               if isinstance(node, ast.ClassDef)]
         for name, node in nodes(ast.ExceptHandler):
             self.assertIn(ast.unparse(node.type), own + ["KeyError", "ZeroDivisionError"])
         for name, node in nodes(ast.Raise):
