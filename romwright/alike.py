@@ -80,7 +80,8 @@ def alike(first, second, alphabet):
     at = 0
     while at < len(pairs):
         one, other, record = pairs[at]
-        for event in events_now(standing_at(first, one, record), list(alphabet)):
+        events = events_now(standing_at(first, one, record), list(alphabet))
+        for event in events:
             row = rows[pairs[at]] + (event,)
             left, right = standing_at(first, one, record), standing_at(second, other, record)
             told, other_told = left.meet(event), right.meet(event)
@@ -140,6 +141,7 @@ def is_closed(first, second, triple, words, known):
         told, other_told = left.meet(event), right.meet(event)
         if told != other_told or told[-1] == ("hangs",):
             return False
-        if stood(left)[1] != stood(right)[1] or (left.standing(), right.standing(), stood(left)[1]) not in known:
+        # Whoever has saved the same has the same record.
+        if (left.standing(), right.standing(), stood(left)[1]) not in known:
             return False
     return True

@@ -12,7 +12,8 @@ class Frame:
         program = picked.program
         self.shapes = {place.name: shaped(program, picked.in_place(place.name), place.align)
                        for place in script.places}
-        self.bases = tuple([base_of(region, home) for region in script.regions])
+        bases = [base_of(region, home) for region in script.regions]
+        self.bases = tuple(bases)
         self.sizes = {name: self.shapes[name].size for name in self.shapes}
         self.aligns = {name: self.shapes[name].align for name in self.shapes}
         for overlay in script.overlays:
@@ -23,7 +24,7 @@ class Frame:
         self.starts = {}
         self.loads = {}
         rooms = []
-        for region, base in zip(script.regions, self.bases):
+        for region, base in zip(script.regions, bases):
             end = self.lay_running(script, region.name, base)
             end = self.lay_loaded(script, region.name, end)
             rooms.append((end, base + region.length))

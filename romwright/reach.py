@@ -52,7 +52,8 @@ def reach(program, alphabet):
     at = 0
     while at < len(queue):
         standing, record = queue[at]
-        for event in events_now(standing_at(program, standing, record), list(alphabet)):
+        events = events_now(standing_at(program, standing, record), list(alphabet))
+        for event in events:
             row = known[(standing, record)] + (event,)
             device = standing_at(program, standing, record)
             device.meet(event)
@@ -117,8 +118,9 @@ def follow(program, words, paths):
     while len(paths.edges) < len(paths.found):
         number = len(paths.edges)
         standing, record = paths.found[number]
+        events = events_now(standing_at(program, standing, record), words)
         edges = []
-        for event in events_now(standing_at(program, standing, record), words):
+        for event in events:
             if event[0] not in ("feed", "answer"):
                 continue
             device = standing_at(program, standing, record)

@@ -249,6 +249,39 @@ class Tables(Checks):
         # From this record on, other pairs would be needed.
         self.assertEqual(judge_table(self.first, self.second, Table(BITS, self.table.pairs + (other,))), len(self.table))
 
+    def test_offers_that_differ_in_a_closed_table(self):
+        first = program([("drop",)], symbols=[("x", 0)], exports=[("x", 0, 0)])
+        second = program([("drop",)])
+        pairs = [OFF, (("fault", "few"), ("fault", "few"), ())]
+        self.assertIsNone(judge_table(first, first, Table(BITS, pairs)))
+        self.assertIsNone(judge_table(second, second, Table(BITS, pairs)))
+        self.assertEqual(judge_table(first, second, Table(BITS, pairs)), 0)
+
+    def test_triples_that_are_not_so(self):
+        """Triples put behind a closed table: other events, other observations, a hang, other forms."""
+        made = program([("ask",), ("drop",), ("go", "begin"), ("name", "d", 0), ("load",), ("ret",)],
+                       cells("d", "data", [0], [("d", 0)]), symbols=[("x", 3)], exports=[("x", 0, 1)])
+        table = alike(made, made, BITS)
+        self.assertEqual(len(table), 2)
+        asks = table.pairs[1][0]
+        one, hang = [asks[:1] + ((None, (value,)),) + asks[2:] for value in (1, (1, 0))]
+        few = ("fault", "few")
+        self.assertIsNone(judge_table(made, made, Table(BITS, table.pairs + ((few, few, ()),))))
+        for wrong in ((asks, few, ()), (few, asks, ()), (asks, one, ()), (one, asks, ()), (hang, hang, ()),
+                      (asks, ("off",), ()), (("off",), asks, ())):
+            self.assertEqual(judge_table(made, made, Table(BITS, table.pairs + (wrong,))), 2)
+        self.assertIsNone(judge_table(made, made, Table(BITS, table.pairs + ((one, one, ()),))))
+        # Standings that this program cannot have by their form.
+        kind, rows, parts, place, stack, returns = asks
+        for other in ((kind, rows, parts), (kind, rows + (None,), parts, place, stack, returns),
+                      (kind, rows[:1], parts, place, stack, returns), (kind, (None, (0, 0)), parts, place, stack, returns),
+                      (kind, rows, parts, (5, 1), stack, returns), (kind, rows, parts, (2, 1), stack, returns),
+                      (kind, rows, parts, (0, 0), stack, returns), (kind, rows, parts, (0, 6), stack, returns),
+                      (kind, rows, parts, (0, 2), stack, returns), (kind, rows, parts, (1, 1), stack, returns),
+                      ("far", rows, parts, place, stack, returns), ("done", rows, parts, place), ("done", rows[:1], parts)):
+            for wrong in ((other, asks, ()), (asks, other, ()), (other, other, ())):
+                self.assertEqual(judge_table(made, made, Table(BITS, table.pairs + (wrong,))), 2)
+
     def test_tables_of_other_programs(self):
         third = program([("ask",), ("out",), ("go", "begin")], symbols=[("x", 3)], exports=[("x", 0, 0)])
         self.assertIsNotNone(judge_table(self.first, third, self.table))

@@ -174,6 +174,9 @@ class Offsets(Checks):
         self.assertEqual(shaped(self.PROGRAM, (3, 1, 0)).offsets, (0, 4, 10))
         self.assertEqual(shaped(self.PROGRAM, (3, 1, 0), 8).align, 8)
         self.assertEqual(shaped(self.PROGRAM, (3,), 1).align, 1)
+        self.assertEqual(shaped(self.PROGRAM, (3,)).align, 1)
+        one = made(code("main", [HALT], [("begin", 0)], align=4))
+        self.assertEqual((shaped(one, (0,)).size, shaped(one, (0,)).align, shaped(one, (0,), 8).align), (1, 4, 8))
 
     def test_empty_sections(self):
         last = shaped(self.PROGRAM, (1, 2))

@@ -59,6 +59,15 @@ class Regions(Checks):
         self.assertEqual((two.lengths, two.words), ((22, 5, 17), 44))
         self.assertEqual(told(lay(self.made(), 1000)), told(two))
 
+    def test_overlays_have_the_greatest_alignment_of_their_parts(self):
+        lines = ["region flash rom 16 100", "region work ram 3 60", MAIN, "overlay over in work load flash fill 0",
+                 "part one align 2 take u.one", "part two align 1 take u.two", "part six align 16 take u.six"]
+        made = picked(lines, fill("one", 3), fill("two", 1, align=8), cells("six", "zero", []))
+        one = lay(made, 1000)
+        # The part without words has alignment 1.
+        self.assertEqual([one.start_of(name) for name in ("over", "one", "two", "six")], [8, 8, 8, 8])
+        self.assertEqual((one.used_of("work"), one.used_of("flash")), (8, 7))
+
     def test_names(self):
         one = lay(self.made(), 1000)
         for name in ("flash", "begin", "u", "none"):
@@ -180,8 +189,8 @@ class Fits(Checks):
         self.assertEqual([first > second, first >= second, first < second, first <= second, first == second,
                           first != second], [True, True, False, False, False, True])
         other = list(layings(self.made(30, *self.FREE), 1016))[0]
-        self.assertEqual([first == other, first != other, first <= other, first >= other, first < other],
-                         [True, False, True, True, False])
+        self.assertEqual([first == other, first != other, first <= other, first >= other, first < other, first > other],
+                         [True, False, True, True, False, False])
         self.assertFalse(first == 12)
         with self.assertRaises(TypeError):
             first <= 12

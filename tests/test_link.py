@@ -90,6 +90,28 @@ class Contents(Checks):
         linked = made(WORK + [TEXT, VARS], unit("a", code("main", [HALT], [("begin", 0)]), *rows))
         self.assertEqual(linked.content, (6656, 2, 1, 8, 1, 1017, 0, 0))
 
+    def test_addresses_are_words(self):
+        main = code("main", [("name", "d", 65535), ("name", "d", 65534), ("name", "d", 40000), HALT], [("begin", 0)])
+        linked = made(["region flash rom 16 200", "region work ram 30000 60", TEXT, VARS],
+                      unit("a", main, cells("d", "data", [("at", "d", 50000)], [("d", 0)])))
+        self.assertEqual(linked.content, (256, 29999, 256, 29998, 256, 4464, 6656, 14464))
+
+    def test_empty_places_have_no_words(self):
+        lines = ["region low rom 16 20", "region high rom 100 20", "region work ram 4 30", "place one in low align 1 fill 0 take a.main",
+                 "place two in high align 8 fill 0 take a.c", "place vars in work load high align 8 fill 0 take a.d"]
+        rows = [code("main", [HALT], [("begin", 0)]), cells("c", "const", [], align=16), cells("d", "data", [])]
+        linked = made(lines, unit("a", *rows))
+        self.assertEqual((linked.content, stretches(linked.laying)), ((6656,), [(1016, 1017, "a.main")]))
+        self.assertEqual(linked.setup.stretches, ((1016, (6656,), False),))
+        self.assertEqual(linked.laying.start_of("two"), 1100)
+
+    def test_stretches_ascend(self):
+        lines = ["region low rom 16 20", "region high rom 100 20", "place one in high align 1 fill 0 take a.*",
+                 "place two in low align 1 fill 0 take b.*"]
+        linked = made(lines, unit("a", code("main", [("ret",)], [("begin", 0)])), unit("b", cells("c", "const", [3])))
+        self.assertEqual(stretches(linked.laying), [(1016, 1017, "b.c"), (1100, 1101, "a.main")])
+        self.assertEqual((len(linked), linked[1016], linked[1100], linked[1099]), (85, 3, 19 * 256, 65535))
+
     def test_zero_places_are_in_no_content(self):
         lines = WORK + [TEXT, "place z in work align 1 fill 0 take *.[zero]"]
         linked = made(lines, unit("a", code("main", [HALT], [("begin", 0)]), cells("z", "zero", [0, 0])))

@@ -22,7 +22,7 @@ LINES = ["region flash rom 16 300", "region work ram 1 90", "place text in flash
 def units():
     main = code("main", [("push", 9), ("name", "d", 7), ("far", "peer", "f", 2, 1), ("bring", "two"), ("call", "far2"),
                          ("unless", "loc"), ("go", "loc"), HALT],
-                [("begin", 0), ("w", 7, "weak"), ("loc", 1, "local")], [("begin", 1, 2)], align=2)
+                [("begin", 0), ("w", 7, "weak"), ("loc", 1, "local"), ("late", 5)], [("begin", 1, 2), ("late", 0, 1)], align=2)
     fixed = code("fix", [("call", "far2"), ("call", "two"), ("ret",)], [("fix", 2)], fixed=True)
     one = code("one", [("dup",), ("go", "one")], [("one", 0)])
     two = code("two", [("call", "far2"), ("ret",)], [("two", 0)])
@@ -59,8 +59,8 @@ class Maps(Checks):
 
     def test_symbols_exports_references(self):
         main, fixed, _, zero, two, _, const, data, cell, last = read_map(linked().map).sections
-        self.assertEqual(main.symbols, (("begin", 0, "global"), ("loc", 1, "local"), ("w", 7, "weak")))
-        self.assertEqual(main.exports, (("begin", 1, 2),))
+        self.assertEqual(main.symbols, (("begin", 0, "global"), ("loc", 1, "local"), ("late", 5, "global"), ("w", 7, "weak")))
+        self.assertEqual(main.exports, (("begin", 1, 2), ("late", 0, 1)))
         self.assertEqual(main.references, ((1, "d", 7), (3, "two", 0), (4, "far2", 0), (5, "loc", 0), (6, "loc", 0)))
         self.assertEqual((fixed.fixed, fixed.references), (True, ((0, "far2", 0), (1, "two", 0))))
         self.assertEqual((zero.symbols, zero.references, zero.exports), ((("z", 2, "global"),), (), ()))
@@ -191,6 +191,25 @@ class Back(Checks):
         self.assertEqual(made.content[veneer - 1016], 27 * 256)
         self.fails(BadContent, veneer, read_back, 1000, changed(made.content, veneer - 1016, 26 * 256), made.map)
 
+    def test_instructions_that_leave_their_section(self):
+        lines = ["region flash rom 16 300", "place text in flash align 1 fill 7 take *.*", "entry begin", "keep *.*"]
+        made = link(lay(pick(Script(lines), [unit("a", code("c", [("dup",), HALT], [("begin", 0)]), code("d", [HALT]))]), 1000))
+        self.assertEqual(made.content, (512, 6656, 6656))
+        # The first one has two words now, so the second one lies behind the end of its section.
+        self.fails(BadContent, 1018, read_back, 1000, (256, 6656, 6656), made.map)
+
+    def test_veneers_stand_in_fixed_sections_alone(self):
+        lines = ["region flash rom 16 300", "place text in flash align 1 fill 7 take *.*", "entry begin"]
+        made = link(lay(pick(Script(lines), [unit("a", code("c", [("dup",), HALT], [("begin", 0)]))]), 1000))
+        longer = changed(made.map, 11, 4)
+        content = (512, 6656, 27 * 256, 5)
+        self.assertEqual(read_map(longer).sections[0].size, 4)
+        self.fails(BadContent, 1018, read_back, 1000, content, longer)
+        fixed = changed(longer, 7, 64)
+        self.assertEqual(read_back(1000, content, fixed), [unit("a", code("c", [("dup",), HALT], [("begin", 0)], fixed=True))])
+        self.fails(BadContent, 1019, read_back, 1000, content[:3], fixed)
+        self.fails(BadContent, 1018, read_back, 1000, (512, 6656, 26 * 256, 5), fixed)
+
     def test_maps_that_break_the_rules_of_sections(self):
         made = linked()
         entries = read_map(made.map).sections
@@ -202,6 +221,16 @@ class Back(Checks):
             wrong = changed(made.map, begins[number] + (9 if place == 10 else place), word)
             with self.assertRaises((BadMap, BadContent)):
                 read_back(1000, made.content, wrong)
+        # No instructions; a number in bring that is none; a reference where there is nothing to refer with.
+        self.fails(BadMap, begins[5], read_back, 1000, made.content, changed(changed(made.map, begins[5] + 9, 0), begins[5] + 10, 0))
+        for part, call in ((3, read_back), (65535, lambda *told: setup_of(*told, 1016))):
+            self.fails(BadMap, begins[0], call, 1000, made.content, changed(made.map, begins[0] + 11, part))
+        reference = begins[1] + 15 + 5
+        self.assertEqual(made.map[reference:reference + 4], (0,) + name_words("far2"))
+        self.fails(BadContent, made.laying.address(1, 0), read_back, 1000, made.content, changed(made.map, reference, 2))
+        data = begins[7] + 15 + 10
+        self.assertEqual(made.map[data:data + 4], (1,) + name_words("z"))
+        self.fails(BadMap, begins[7], read_back, 1000, made.content, changed(made.map, data, 3))
         # Two sections of one name, in one unit; a symbol that is defined twice.
         second = begins[1] + 3
         twice = made.map[:second] + name_words("main") + made.map[second + 3:]
@@ -210,7 +239,7 @@ class Back(Checks):
         twice = made.map[:second] + name_words("begin") + made.map[second + 3:]
         self.fails(BadMap, begins[1], read_back, 1000, made.content, twice)
         # An export of a symbol that is not there.
-        export = begins[0] + 15 + 15
+        export = begins[0] + 15 + 20
         wrong = made.map[:export] + name_words("none") + made.map[export + 3:]
         self.fails(BadMap, 1, read_back, 1000, made.content, wrong)
 
@@ -220,17 +249,17 @@ class Lines(Checks):
         lines = ["region flash rom 16 90", "region work ram 5 50", "place one in flash align 1 fill 7 take a.main",
                  "place vars in work load flash align 1 fill 0 take a.d a.z", "place more in flash align 4 fill 0 take a.*",
                  "place zeros in work align 1 fill 0 take b.*", "entry begin", "keep *.*"]
-        main = code("main", [("name", "d", 2), ("unless", "sub"), ("far", "p", "q", 0, 2), ("go", "begin")], [("begin", 0)],
+        main = code("main", [("name", "d", 2), ("unless", "sub"), ("call", "under"), ("go", "begin")], [("begin", 0)],
                     fixed=True)
-        sub = code("sub", [("call", "begin"), ("ret",)], [("sub", 1)])
+        sub = code("sub", [("far", "p", "q", 0, 2), ("ret",)], [("sub", 1), ("under", 0)])
         rows = [unit("a", main, cells("d", "data", [7, ("at", "sub2", 3)], [("d", 0)]), cells("z", "zero", [0, 0]), sub,
                      cells("k", "const", [1], [("sub2", 1)], align=4)), unit("b", cells("z", "zero", [0]))]
         made = link(lay(pick(Script(lines), rows), 1000))
         self.assertEqual(listing(made), [
-            "1016 256,7 a.main 0 name d 2", "1018 3843 a.main 1 unless sub",
-            "1019 5632,0 a.main 2 far p q 0 2", "1021 3578 a.main 3 go begin", "1022 6912,1026 a.main - hop a.sub 1",
-            "1024 4608,1016 a.sub 0 call begin", "1026 4864 a.sub 1 ret", "1028 1 a.k 0 word 1",
-            "1029 7 a.d 0 word 7", "1030 1032 a.d 1 at sub2 3", "1031 0 a.z 0 word 0", "1032 0 a.z 1 word 0"])
+            "1016 256,7 a.main 0 name d 2", "1018 3842 a.main 1 unless sub", "1019 4355 a.main 2 call under",
+            "1020 3579 a.main 3 go begin", "1021 6912,1030 a.main - hop a.sub 1", "1023 6912,1028 a.main - hop a.sub 0",
+            "1028 5632,0 a.sub 0 far p q 0 2", "1030 4864 a.sub 1 ret", "1032 1 a.k 0 word 1",
+            "1033 7 a.d 0 word 7", "1034 1036 a.d 1 at sub2 3", "1035 0 a.z 0 word 0", "1036 0 a.z 1 word 0"])
 
     def test_by_chance(self):
         for seed in range(30):

@@ -158,6 +158,9 @@ class WantedSections(Checks):
         self.assertEqual(made.why("app.main"), ("app.main",))
         self.assertEqual(made.why("b.r"), ("app.main", "b.p", "b.r"))
         self.assertEqual(made.why("b.s"), ("app.main", "b.t", "b.s"))
+        for order in (("p", "q", "t"), ("t", "p", "q"), ("q", "t", "p")):
+            turned = pick(script(), [unit("app", calls("main", *order, symbols=[("begin", 0)])), units[1]])
+            self.assertEqual(turned.why("b.r"), ("app.main", "b.p", "b.r"))
         kept_too = pick(script("keep b.r"), units)
         self.assertEqual(kept_too.why("b.r"), ("b.r",))
         self.assertEqual(kept_too.why("b.s"), ("b.r", "b.s"))

@@ -213,6 +213,11 @@ class Confirms(Checks):
                         ("push", 0), ("drop",), ("ask",), ("drop",), ("push", 1), ("drop",), ("confirm",)],
                        symbols=[("other", 10)])
         self.sure(even, 9, (START, ("feed", 1)))
+        # Two feeds behind the first branch, one behind the other one, with as many steps.
+        tied = program([("ask",), ("unless", "other"), *[("push", 0), ("drop",)], ("ask",), ("drop",), ("confirm",), HALT,
+                        ("ask",), ("drop",), ("ask",), ("drop",), ("confirm",)], symbols=[("other", 8)])
+        self.sure(tied, 7, (START, ("feed", 1), ("feed", 0)))
+        self.sure(tied, 7, (START, ("feed", 1), ("feed", 1)), Alphabet((1, 0)))
 
     def test_answers(self):
         made = program([("far", "p", "f", 0, 2), ("drop",), ("unless", "end"), ("push", 3), ("drop",), ("confirm",)],

@@ -118,6 +118,11 @@ class Differences(Checks):
         self.assertEqual(elder + turn, newer)
         self.assertNotEqual(elder, newer)
 
+    def test_a_changed_unit_has_an_order(self):
+        elder, newer = Release([unit("a", C, D)]), Release([unit("a", C, cells("d", "data", [2]))])
+        turn = newer - elder
+        self.assertEqual((turn.changes, turn.orders), ((Change("a", "d", cells("d", "data", [2])),), (("a", ("c", "d")),)))
+
     def test_nothing(self):
         elder = Release([unit("a", C)])
         turn = Release([unit("none"), unit("a", C)]) - elder
@@ -218,6 +223,9 @@ class Joined(Checks):
                       Turn(1, 2, one.changes[1:], one.orders), Turn(1, 2, one.changes, ()), 5):
             self.assertFalse(one == other)
         self.assertNotEqual(Change("a", "c", C), Change("a", "c", D))
+        self.assertNotEqual(Change("a", "c", C), Change("b", "c", C))
+        self.assertNotEqual(Change("a", "c", None), Change("a", "d", None))
+        self.assertFalse(Change("a", "c", C) == ("a", "c", C))
 
 
 class Words(Checks):
