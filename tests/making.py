@@ -26,8 +26,9 @@ NAMES = ("one", "two", "three", "four", "five")
 
 
 class Maker:
-    def __init__(self, seed):
+    def __init__(self, seed, long=False):
         self.rng = random.Random(seed)
+        self.long = long
         self.codes = []
         self.datas = []
         self.serial = 0
@@ -103,8 +104,10 @@ class Maker:
         label = self.name("l")
         items = []
         limit = 25 if row["fixed"] else rng.choice([10, 30, 85])
+        if self.long:
+            limit = 34 if row["fixed"] else 90
         where = rng.randint(0, 5)
-        while len(items) < limit and (len(items) < 4 or rng.random() < 0.9):
+        while len(items) < limit and (len(items) < 4 or rng.random() < (0.99 if self.long else 0.9)):
             if len(items) >= where and label:
                 row["symbols"].append((label, len(items), "local"))
                 where = 1000
@@ -132,10 +135,10 @@ class Maker:
         return [Unit(name, made[name]) for name in names]
 
 
-def made_picked(seed):
+def made_picked(seed, long=False):
     """(script, units, archives) by chance, by which a program can be picked; and the program."""
     while True:
-        maker = Maker(seed)
+        maker = Maker(seed, long)
         try:
             units = maker.units(["a", "b", "c", "d"][:maker.rng.randint(2, 4)])
             archives = []

@@ -282,6 +282,10 @@ class Tables(Checks):
             for wrong in ((other, asks, ()), (asks, other, ()), (other, other, ())):
                 self.assertEqual(judge_table(made, made, Table(BITS, table.pairs + (wrong,))), 2)
 
+    def test_hangs_are_no_table(self):
+        made = program([("push", 5), ("load",)])
+        self.assertEqual(judge_table(made, made, Table(BITS, [OFF, (("hangs",), ("hangs",), ())])), 0)
+
     def test_tables_of_other_programs(self):
         third = program([("ask",), ("out",), ("go", "begin")], symbols=[("x", 3)], exports=[("x", 0, 0)])
         self.assertIsNotNone(judge_table(self.first, third, self.table))

@@ -115,7 +115,7 @@ class Rounds(Checks):
 
     def test_by_chance(self):
         for seed in range(60):
-            script, _, _, picked = made_picked(seed)
+            script, _, _, picked = made_picked(seed, seed >= 30)
             program = picked.program
             for place in script.places:
                 numbers = picked.in_place(place.name)
