@@ -103,9 +103,9 @@ def instruction_back(rows, told, address, reference):
     op = op_of(first[0])
     size = 2 if first[0] in WITH_WORD else 1
     operand = rows.word_at(address + 1) if size == 2 else None
+    if (op == "far" and operand >= len(told.wants)) or (op == "bring" and operand > len(told.parts)):
+        raise BadContent(address)
     if op == "far":
-        if operand >= len(told.wants):
-            raise BadContent(address)
         return ("far",) + told.wants[operand], size
     if op == "push":
         return (("push", operand) if reference is None else ("name",) + reference), size

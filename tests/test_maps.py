@@ -186,6 +186,9 @@ class Back(Checks):
         # A number of no want.
         self.fails(BadContent, far, read_back, 1000, changed(made.content, far + 1 - 1016, 1), made.map)
         self.assertEqual(made.content[call - 1016] // 256, 18)
+        # A number of no part.
+        self.assertEqual(made.content[call - 1018:call - 1016], (23 * 256, 2))
+        self.fails(BadContent, call - 2, read_back, 1000, changed(made.content, call - 1017, 3), made.map)
         # Where a veneer stands, there is nothing but a hop.
         veneer = made.laying.address(1, 3)
         self.assertEqual(made.content[veneer - 1016], 27 * 256)
