@@ -1,6 +1,7 @@
 """Programs that are alike over an alphabet, and the rows that part them."""
 
 from romwright.named import events_now, Lone, tuples_of
+from romwright.order import ascending
 from romwright.plain import BadAlphabet, is_word, TooMany
 
 MOST_STANDINGS = 300
@@ -67,7 +68,7 @@ def standing_at(program, standing, record):
 
 def stood(device):
     """(standing, record) of a device; the record as a tuple of pairs, ascending."""
-    return (device.standing(), tuple(sorted(device.record.items())))
+    return (device.standing(), tuple(ascending(list(device.record.items()))))
 
 
 def alike(first, second, alphabet):

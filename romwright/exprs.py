@@ -1,6 +1,7 @@
 """Expressions: read, written, and their values."""
 
 from romwright.lines import decimal, is_decimal
+from romwright.order import ascending
 from romwright.plain import BadWords, is_name
 
 WORDS = (
@@ -249,9 +250,9 @@ def let_values(lets, facts):
 
 def least_ring(lets):
     """The ring of fewest lets, of several the least one; None if there is none."""
-    after = {name: sorted([other for other in lets_in(lets[name]) if other in lets]) for name in lets}
+    after = {name: ascending([other for other in lets_in(lets[name]) if other in lets]) for name in lets}
     best = None
-    for name in sorted(lets):
+    for name in ascending(lets):
         ring = ring_from(name, after)
         if ring is not None and (best is None or len(ring) < len(best)):
             best = ring

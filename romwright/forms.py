@@ -1,6 +1,7 @@
 """The shapes of places: where their sections begin, and which branches are wide or veneered."""
 
 from romwright.items import BRANCHES, item_size
+from romwright.order import ascending, greatest_of
 
 
 class Shape:
@@ -14,7 +15,7 @@ class Shape:
         self.offsets = offsets_of(program, numbers, self.sizes)
         self.size = self.offsets[-1] + self.sizes[-1] if len(numbers) > 0 else 0
         aligns = [program.sections[number].align for number in numbers]
-        self.align = max([align] + aligns) if self.size > 0 else 1
+        self.align = greatest_of([align] + aligns) if self.size > 0 else 1
 
 
 def shaped(program, numbers, align=1):
@@ -43,7 +44,7 @@ def unreached(program, shape):
     for number, place, target in branches_of(program, shape.sections):
         if (number, place) not in shape.rounds and not reaches(shape, number, place, target):
             found.append((number, place))
-    return sorted(found)
+    return ascending(found)
 
 
 def reaches(shape, number, place, target):

@@ -1,6 +1,7 @@
 """Units joined to a program, with all references bound."""
 
 from romwright.items import BRANCHES, words_of
+from romwright.order import ascending, ordered
 from romwright.plain import Missing, NoSection, TooMany, Twice, Unlike
 
 
@@ -23,10 +24,10 @@ class Program:
     def __init__(self, sections, entry, exports, wants, cells, parts):
         self.sections = tuple(sections)
         self.entry = entry
-        self.exports = tuple(sorted(exports))
+        self.exports = tuple(ascending(exports))
         self.offers = tuple([export[:3] for export in self.exports])
         self.wants = tuple(wants)
-        self.cells = tuple(sorted(cells))
+        self.cells = tuple(ascending(cells))
         self.parts = tuple(parts)
 
     def __getitem__(self, at):
@@ -96,7 +97,7 @@ def joined(units, entry):
     check_twice([unit.name for unit in units])
     check_twice(global_names(units))
     rows = []
-    for unit in sorted(units, key=lambda each: each.name):
+    for unit in ordered(units, [unit.name for unit in units]):
         rows.extend([(unit.name, section) for section in unit.sections])
     if len(rows) > 40:
         raise TooMany(40)
@@ -114,7 +115,7 @@ def joined(units, entry):
 
 def check_twice(names):
     """Raises the error for the least name that comes twice."""
-    names = sorted(names)
+    names = ascending(names)
     for k in range(1, len(names)):
         if names[k] == names[k - 1]:
             raise Twice(names[k])
@@ -135,7 +136,7 @@ def wants_of(sections):
         for item in section.body:
             if section.kind == "code" and item[0] == "far":
                 wants[item[1:]] = True
-    return sorted(wants)
+    return ascending(wants)
 
 
 def bound_section(unit, section, names, kinds, wants):

@@ -3,6 +3,7 @@
 from romwright.exprs import let_values, names_in, value
 from romwright.forms import aligned, offset_in, Shape
 from romwright.layout import Frame
+from romwright.order import ascending
 from romwright.pack import corners, is_at_most, packings
 from romwright.plain import BadHome, CannotKeep, NoFit, NoName
 
@@ -172,7 +173,7 @@ def best_laying(picked, home, confirms):
     frame = Frame(picked, home)
     found = list(packings(frame.rooms, frame.things, frame.choices))
     best = None
-    for _, number in sorted([(packing.words, number) for number, packing in enumerate(found)]):
+    for _, number in ascending([(packing.words, number) for number, packing in enumerate(found)]):
         laying = Laying(picked, home, frame, found[number])
         ahead = kept_ahead(laying, confirms)
         if best is None or ahead > best[0]:

@@ -1,6 +1,7 @@
 """What all layings of a program at a home have in common."""
 
 from romwright.forms import aligned, shaped
+from romwright.order import greatest_of
 from romwright.script import Free, Overlay, Part, Place
 
 
@@ -18,8 +19,8 @@ class Frame:
         self.aligns = {name: self.shapes[name].align for name in self.shapes}
         for overlay in script.overlays:
             names = parts_of(script, overlay.name)
-            self.sizes[overlay.name] = max([self.sizes[name] for name in names])
-            self.aligns[overlay.name] = max([self.aligns[name] for name in names])
+            self.sizes[overlay.name] = greatest_of([self.sizes[name] for name in names])
+            self.aligns[overlay.name] = greatest_of([self.aligns[name] for name in names])
         # The first addresses at run and at load, without the free places.
         self.starts = {}
         self.loads = {}

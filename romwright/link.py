@@ -2,6 +2,7 @@
 
 from romwright.items import BRANCHES, referred
 from romwright.machine import code_words, Setup
+from romwright.order import ascending, greatest_of
 from romwright.plain import Astray, BLANK, name_words
 from romwright.script import Part, Place
 from romwright.wording import effect_word, export_words, kind_word, symbol_words
@@ -140,7 +141,7 @@ def content_of(laying):
     script = laying.picked.script
     begin = laying.home + 16
     places = [place for place in script.places if lies_in_content(script, place) and laying.size_of(place.name) > 0]
-    end = max([begin] + [laying.load_of(place.name) + laying.size_of(place.name) for place in places])
+    end = greatest_of([begin] + [laying.load_of(place.name) + laying.size_of(place.name) for place in places])
     words = [BLANK] * (end - begin)
     for place in places:
         at = laying.load_of(place.name) - begin
@@ -169,7 +170,7 @@ def stretches(laying):
         first, size = laying.at_load(number), section_size(laying, number)
         if lies_in_content(script, script[name]) and size > 0:
             rows.append((first, first + size, laying.picked.program.sections[number].name))
-    return sorted(rows)
+    return ascending(rows)
 
 
 def section_size(laying, number):

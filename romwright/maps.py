@@ -4,6 +4,7 @@ from romwright.backward import found_in, in_content, Rows
 from romwright.lines import item_line
 from romwright.link import item_words_of, lies_in_content, veneer_words, veneers_in, WRITABLE
 from romwright.machine import Setup
+from romwright.order import ascending
 from romwright.pick import sections_of
 from romwright.plain import BadMap
 from romwright.units import Unit
@@ -77,7 +78,7 @@ def listing(linked):
     for number, section in enumerate(sections_of(picked)):
         if lies_in_content(picked.script, picked.script[picked.where[number]]):
             rows.extend(listed_section(linked.laying, number, section))
-    return [f"{address} {line}" for address, line in sorted(rows)]
+    return [f"{address} {line}" for address, line in ascending(rows)]
 
 
 def listed_section(laying, number, section):
@@ -105,7 +106,7 @@ def read_back(home, content, words):
     sections = {}
     for each in found_in(Rows(home, content), read_map(words)):
         sections.setdefault(each.entry.name.split(".")[0], []).append(each.section)
-    return [Unit(name, sections[name]) for name in sorted(sections)]
+    return [Unit(name, sections[name]) for name in ascending(sections)]
 
 
 def setup_of(home, content, words, entry):
@@ -125,7 +126,7 @@ def setup_of(home, content, words, entry):
         if each.entry.kind == "kept":
             cells.extend([(name, each.entry.run + place) for name, place, _ in each.entry.symbols])
     groups = [part[0] for part in told.parts]
-    return Setup(stretches, entry, exports=sorted(exports), wants=told.wants, cells=sorted(cells),
+    return Setup(stretches, entry, exports=ascending(exports), wants=told.wants, cells=ascending(cells),
                  parts=list(zip(groups, parts)))
 
 

@@ -1,5 +1,6 @@
 """How a device meets events, whether it runs by names or by words."""
 
+from romwright.order import ascending
 from romwright.plain import BadEvent, is_word, NotNow
 from romwright.stepping import fault, given
 
@@ -128,7 +129,7 @@ def carry(device, run, leaves):
 
 def save_cells(device, run, seen):
     """Puts the kept cells into the record, if there is room for them."""
-    pairs = tuple(sorted(run.kept_cells()))
+    pairs = tuple(ascending(run.kept_cells()))
     record = {name: device.record[name] for name in device.record}
     for name, word in pairs:
         record[name] = word

@@ -2,6 +2,7 @@
 
 from romwright.byname import Memory, NameRun
 from romwright.meeting import meet_event, Meeter
+from romwright.order import ascending
 from romwright.stepping import given, stepped, went
 
 
@@ -62,7 +63,7 @@ class Lone(Meeter):
         if self.kind not in ("asks", "far", "done"):
             return (self.kind,)
         memory = self.run.memory
-        parts = tuple(sorted([(group, memory.present[group]) for group in memory.present]))
+        parts = tuple(ascending([(group, memory.present[group]) for group in memory.present]))
         standing = (self.kind, cells_there(memory), parts)
         if self.kind == "done":
             return standing

@@ -1,6 +1,7 @@
 """Things packed into rooms."""
 
 from romwright.forms import aligned
+from romwright.order import ascending, least_of
 from romwright.plain import NoFit, TooMany
 
 
@@ -71,8 +72,8 @@ def numbers_in(chosen, count):
 
 def least_behind(things, ends, chosen):
     """The least end of a set of things, by the ends of smaller sets."""
-    return min([laid_behind(ends[chosen - (1 << number)], things[number])
-                for number in numbers_in(chosen, len(things))])
+    return least_of([laid_behind(ends[chosen - (1 << number)], things[number])
+                     for number in numbers_in(chosen, len(things))])
 
 
 def judge_ends(start, things, ends):
@@ -194,7 +195,7 @@ def corners(starts, things, choices):
         lengths = tuple([end - start for start, end in zip(starts, packing.ends)])
         firsts.setdefault(lengths, packing)
     found = []
-    for lengths in sorted(firsts):
+    for lengths in ascending(firsts):
         # Lengths that are at most these come ahead of them.
         if not any([is_at_most(corner, lengths) for corner, _ in found]):
             found.append((lengths, firsts[lengths]))

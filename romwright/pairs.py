@@ -5,6 +5,7 @@ address has words on the two placements which differ as the machines' words do.
 """
 
 from romwright.addresses import meeting_distance
+from romwright.order import ascending
 
 
 def parting_pair(program, run):
@@ -30,7 +31,7 @@ def spread(program, chosen, avoided, start):
     for number in chosen:
         size = program.sections[number].size
         blocks.extend([(base, base + size) for base in chosen[number]])
-    blocks = sorted(blocks)
+    blocks = ascending(blocks)
     first, second = [], []
     at = start
     for number, section in enumerate(program.sections):
@@ -112,7 +113,7 @@ def bases_near(program, number, offsets, words):
     for offset in offsets:
         points.extend([(word - offset) % 65536 for word in words + [0]])
     near = {point + k: True for point in points for k in range(-3, 4)}
-    return [base for base in sorted(near) if 1 <= base <= most]
+    return [base for base in ascending(near) if 1 <= base <= most]
 
 
 def choices_of_two(program, left, right):
@@ -139,7 +140,7 @@ def bases_far(program, address):
 
 def are_bases(program, bases):
     """Whether these sections can have these bases together."""
-    rows = sorted([(bases[number], bases[number] + program.sections[number].size) for number in bases])
+    rows = ascending([(bases[number], bases[number] + program.sections[number].size) for number in bases])
     filled = [row for row in rows if row[0] < row[1]]
     if any([low < 1 or high > 65535 for low, high in rows]):
         return False

@@ -2,6 +2,7 @@
 
 from romwright.joining import bound_entry, bound_section, cells_of, check_twice, exports_of, global_names, Program
 from romwright.joining import target_of, wants_of
+from romwright.order import ascending, least_of
 from romwright.plain import BadName, is_name, NoName, NoSection, TooMany, Twice, Unfit, Unplaced
 from romwright.script import fits, Free, Part
 from romwright.units import Section, Unit
@@ -38,12 +39,12 @@ class Picked:
     """A program with the places of its sections in a script."""
 
     def __init__(self, script, library, roots, after):
-        order = sorted(after, key=lambda number: (library.owners[number], number))
+        order = [number for _, number in ascending([(library.owners[number], number) for number in after])]
         check_sizes(library, order)
         self.script = script
         self.where = places_of(script, library, order)
         self.program = program_of(script, library, order, self.where)
-        self.dead = tuple(sorted([library.titles[number] for number in range(library.own) if number not in after]))
+        self.dead = tuple(ascending([library.titles[number] for number in range(library.own) if number not in after]))
         taken = [library.owners[number] for number in order if number >= library.own]
         self.taken = tuple(sorted(set(taken)))
         self.chains = chains_of(library, roots, after)
@@ -65,7 +66,7 @@ class Picked:
             if place == name:
                 section = self.program.sections[number]
                 rows.append((pattern_of(self.script[name], section.name, section.kind), number))
-        return tuple([number for _, number in sorted(rows)])
+        return tuple([number for _, number in ascending(rows)])
 
     def kept_units(self):
         return list(self.units)
@@ -94,7 +95,7 @@ def check_sizes(library, order):
     hidden = [symbol[0] for number in order if library.kinds[number] == "kept"
               for symbol in library.rows[number].symbols if library.is_hidden(number, symbol)]
     if len(hidden) > 0:
-        raise Twice(min(hidden))
+        raise Twice(least_of(hidden))
 
 
 def pattern_of(place, name, kind):

@@ -32,7 +32,7 @@ def is_base(thing, size):
 
 def share(first, size, second, other):
     """Whether sections of these sizes at these bases share an address."""
-    return max(first, second) < min(first + size, second + other)
+    return size > 0 and other > 0 and first < second + other and second < first + size
 
 
 def placed(program, bases):

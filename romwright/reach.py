@@ -2,6 +2,7 @@
 
 from romwright.alike import MOST_STANDINGS, standing_at, stood
 from romwright.named import events_now, Lone
+from romwright.order import ascending
 from romwright.plain import NoSection, TooMany
 from romwright.units import Section, Unit
 
@@ -57,7 +58,7 @@ def reach(program, alphabet):
             row = known[(standing, record)] + (event,)
             device = standing_at(program, standing, record)
             device.meet(event)
-            for number in sorted(device.run.memory.used):
+            for number in ascending(device.run.memory.used):
                 rows.setdefault(number, row)
             behind = stood(device)
             if behind not in known:

@@ -1,6 +1,7 @@
 """Releases, and the turns that lead from one to another."""
 
 from romwright.joining import check_twice
+from romwright.order import ascending, ordered
 from romwright.plain import BadBase, BadTurn, name_words, NoName
 from romwright.units import Unit
 from romwright.wholes import take_whole, whole_words
@@ -14,7 +15,8 @@ class Release:
 
     def __init__(self, units):
         check_twice([unit.name for unit in units])
-        self.units = tuple(sorted([unit for unit in units if len(unit) > 0], key=lambda each: each.name))
+        told = [unit for unit in units if len(unit) > 0]
+        self.units = tuple(ordered(told, [unit.name for unit in told]))
         self.mark = mark_of(release_words(self.units))
 
     def as_words(self):
@@ -64,8 +66,8 @@ class Turn:
     def __init__(self, base, result, changes, orders):
         self.base = base
         self.result = result
-        self.changes = tuple(sorted(changes, key=lambda change: (change.unit, change.name)))
-        self.orders = tuple(sorted([(unit, tuple(names)) for unit, names in orders]))
+        self.changes = tuple(ordered(changes, [(change.unit, change.name) for change in changes]))
+        self.orders = tuple(ascending([(unit, tuple(names)) for unit, names in orders]))
 
     def __bool__(self):
         return bool(self.changes) or bool(self.orders)
@@ -150,7 +152,7 @@ def turned_units(units, turn):
         rows[change.unit] = changed_sections(rows.get(change.unit, []), change)
     for name, names in turn.orders:
         rows[name] = ordered_sections(rows.get(name, []), names)
-    return [Unit(name, rows[name]) for name in sorted(rows)]
+    return [Unit(name, rows[name]) for name in ascending(rows)]
 
 
 def changed_sections(sections, change):

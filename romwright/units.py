@@ -1,6 +1,7 @@
 """Sections and the units that are made of them."""
 
 from romwright.items import is_count, is_item, last_place, LAST_OPS, most_items, referred, words_of
+from romwright.order import ascending, least_of, ordered
 from romwright.plain import BadAlign, BadCell, BadExport, BadFixed, BadItem, BadKind, BadName, BadSymbol, NoSection
 from romwright.plain import is_name, TooMany, Twice
 
@@ -28,8 +29,8 @@ class Section:
         self.body = tuple(body)
         self.align = align
         self.fixed = fixed
-        self.symbols = tuple(sorted(symbols, key=lambda symbol: (symbol[1], symbol[0])))
-        self.exports = tuple(sorted(exports))
+        self.symbols = tuple(ordered(symbols, [(symbol[1], symbol[0]) for symbol in symbols]))
+        self.exports = tuple(ascending(exports))
         self.size = words_of(kind, self.body)
 
     def __len__(self):
@@ -163,7 +164,7 @@ def check_symbol_names(sections):
                 twice.append(symbol[0])
             before[symbol[0]] = True
     if len(twice) > 0:
-        raise Twice(min(twice))
+        raise Twice(least_of(twice))
 
 
 def section_of(unit, name):

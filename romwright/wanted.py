@@ -2,6 +2,7 @@
 
 from romwright.items import referred
 from romwright.joining import can_lead, Names
+from romwright.order import ascending, ordered
 from romwright.plain import Missing, Unlike, Wanted
 from romwright.script import fits
 
@@ -24,7 +25,7 @@ class Library:
     def add_units(self, units):
         """Adds the sections of units or of an archive; the names that they define."""
         names = Names()
-        for unit in sorted(units, key=lambda each: each.name):
+        for unit in ordered(units, [unit.name for unit in units]):
             for section in unit.sections:
                 names.add_section(unit.name, len(self.rows), section)
                 self.rows.append(section)
@@ -83,7 +84,7 @@ def roots_of(library, script, entry):
             if fits(pattern, library.titles[number], library.kinds[number]):
                 roots[number] = True
     exports = [(export[0], number) for number in own for export in library.rows[number].exports]
-    for _, number in sorted(exports):
+    for _, number in ascending(exports):
         roots[number] = True
     return list(roots)
 

@@ -9,7 +9,7 @@ ROOT = os.path.join(os.path.dirname(os.path.abspath(__file__)), os.pardir, "romw
 BARRED = ("register", "mro", "elements", "open", "input", "law", "typing", "enum", "dataclass", "namedtuple", "Meta",
           "abstractmethod", "overload", "contextmanager")
 DUNDERS = """__init__ __eq__ __len__ __iter__ __getitem__ __contains__ __enter__ __exit__ __call__ __add__ __sub__
-__or__ __bool__ __lt__ __le__ __gt__ __ge__ __ne__ __setitem__""".split()
+__or__ __and__ __bool__ __lt__ __le__ __gt__ __ge__ __ne__ __setitem__""".split()
 LISTED = """append clear copy count endswith extend find get index insert isalnum isalpha isdigit islower isspace
 isupper items join keys ljust lower lstrip partition pop remove replace reverse rfind rjust rpartition rsplit rstrip
 setdefault split splitlines startswith strip update upper values zfill bit_length add discard""".split()
@@ -226,6 +226,18 @@ class Language(unittest.TestCase):
         for name, node in nodes(ast.Raise):
             self.assertIsInstance(node.exc, ast.Call)
             self.assertIn(node.exc.func.id, own + ["TypeError"])
+
+    def test_orders(self):
+        """Beside classes that compare, only plain numbers and texts are sorted by the builtins."""
+        for name, node in nodes(ast.Call):
+            if isinstance(node.func, ast.Name) and node.func.id in ("sorted", "min", "max"):
+                place = (name, node.lineno)
+                self.assertEqual(node.keywords, [], place)
+                if len(node.args) == 1:
+                    self.assertEqual(node.func.id, "sorted", place)
+                    self.assertTrue(ast.unparse(node.args[0]).startswith("set("), place)
+                else:
+                    self.assertTrue(any([isinstance(part, ast.Constant) for part in node.args]), place)
 
     def test_calls(self):
         for name, node in nodes(ast.Call):
