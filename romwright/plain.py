@@ -311,8 +311,13 @@ class NoRow(RomError):
         self.start = start
 
 
+def is_between(thing, least, most):
+    """Whether this is an integer within these bounds; True and False are none."""
+    return isinstance(thing, int) and not isinstance(thing, bool) and least <= thing <= most
+
+
 def is_word(thing):
-    return isinstance(thing, int) and not isinstance(thing, bool) and 0 <= thing <= 65535
+    return is_between(thing, 0, 65535)
 
 
 def is_name(thing):

@@ -51,6 +51,10 @@ def tokens(node):
     return end + [root_of(node)]
 
 
+def is_setter(node):
+    return any(ast.unparse(mark).endswith(".setter") for mark in node.decorator_list)
+
+
 def roots(node):
     """The tokens of what a loop walks; a list(..) is another list."""
     if isinstance(node, ast.Call):
@@ -104,7 +108,7 @@ class Language(unittest.TestCase):
             if node.name.startswith("__"):
                 self.assertIn(node.name, DUNDERS)
             for mark in node.decorator_list:
-                self.assertIn(ast.unparse(mark), ("property", "staticmethod", "classmethod"))
+                self.assertIn(ast.unparse(mark), ("property", "staticmethod", "classmethod", f"{node.name}.setter"))
 
     def test_kinds_of_nodes(self):
         barred = (ast.AsyncFunctionDef, ast.Global, ast.Await, ast.GeneratorExp, ast.Div, ast.AnnAssign, ast.Starred,
@@ -182,27 +186,28 @@ class Language(unittest.TestCase):
 
     def test_methods_and_attributes(self):
         methods = [(each.name, node) for _, each in nodes(ast.ClassDef) for node in each.body
-                   if isinstance(node, ast.FunctionDef)]
+                   if isinstance(node, ast.FunctionDef) and not is_setter(node)]
+        setters = {node.name for _, node in nodes(ast.FunctionDef) if is_setter(node)}
         properties = [node.name for _, node in methods if node.decorator_list
                       and ast.unparse(node.decorator_list[0]) == "property"]
         stored = {node.attr for _, node in nodes(ast.Attribute) if isinstance(node.ctx, ast.Store)}
         read = {node.attr for _, node in nodes(ast.Attribute)}
         plain = {node.name for _, node in methods if node.name not in properties}
         self.none(sorted(stored & set(NO_ATTRIBUTES)))
-        self.none(sorted(set(properties) & (stored | plain)))
+        self.none(sorted(set(properties) & ((stored - setters) | plain)))
         # The interface has these as methods of one class and as attributes of others.
         self.none(sorted((plain & stored) - {"address"}))
         own = dir("") + dir(0) + dir([]) + dir({}) + dir(set()) + dir(b"")
         names = [name for name in own if not name.startswith("__")]
         self.none(sorted([name for name in plain if name in names and name not in LISTED]))
-        known = stored | plain | set(properties) | set(LISTED) | {"__init__"}
+        known = stored | plain | set(properties) | set(LISTED) | {"__init__", "setter"}
         self.none(sorted(read - known))
         rest = [node.name for _, tree in TREES.items() for node in tree.body if isinstance(node, ast.FunctionDef)]
         self.assertEqual(len(rest), len(set(rest)), sorted([name for name in rest if rest.count(name) > 1]))
 
     def test_getitem_and_iter(self):
         for name, node in nodes(ast.ClassDef):
-            names = [each.name for each in node.body if isinstance(each, ast.FunctionDef)]
+            names = [each.name for each in node.body if isinstance(each, ast.FunctionDef) and not is_setter(each)]
             if "__getitem__" in names:
                 self.assertIn("__iter__", names, node.name)
             self.assertEqual(len(set(names)), len(names), node.name)
