@@ -152,7 +152,13 @@ def exports_back(found):
 
 def line_at(home, content, words, address):
     """(name of the section, place) of what begins at an address at run, or None."""
+    return lines_at_run(home, content, words).get(address)
+
+
+def lines_at_run(home, content, words):
+    """A dict from each address at run where something begins to (name of the section, place)."""
+    lines = {}
     for each in found_in(Rows(home, content), read_map(words)):
-        if address - each.entry.run in each.steps[:-1]:
-            return (each.entry.name, each.steps.index(address - each.entry.run))
-    return None
+        for place, step in enumerate(each.steps[:-1]):
+            lines.setdefault(each.entry.run + step, (each.entry.name, place))
+    return lines

@@ -23,6 +23,10 @@ class Meeter:
         self.confirmed_at = None
         self.steps = 0
         self.printed_at = ()
+        # What it has told so far of the last event.
+        self.seen = []
+        # Who keeps notes of what it saves and confirms, if somebody does.
+        self.holder = None
         # The run of the last start, and the one that met the last event: this one or a call from afar.
         self.run = None
         self.active = None
@@ -35,6 +39,7 @@ def meet_event(device, event):
     if not meets_now(device, event):
         raise NotNow(event)
     leaves = None
+    device.seen = []
     device.active = device.run
     if event[0] == "start":
         device.steps = 0
@@ -49,7 +54,8 @@ def meet_event(device, event):
         fault(device.run, "far")
     else:
         given(device.run, event[1] if event[0] == "answer" else (event[1],))
-    return tuple(carry(device, device.active, leaves))
+    carry(device, device.active, leaves)
+    return tuple(device.seen)
 
 
 def is_event(device, event):
@@ -96,19 +102,14 @@ def meets_now(device, event):
 
 
 def carry(device, run, leaves):
-    """Lets a run go on until it can do no more; the observations. A call from afar leaves so many words."""
-    seen = []
+    """Lets a run go on until it can do no more, and tells what is seen. A call from afar leaves so many words."""
     printed = len(run.printed)
     left = MOST_STEPS
     while run.kind in ("runs", "saves", "confirms"):
         if run.kind == "saves":
-            save_cells(device, run, seen)
+            save_cells(device, run)
         elif run.kind == "confirms":
-            if not device.confirmed:
-                device.confirmed = True
-                device.confirmed_at = device.steps
-            seen.append(("confirm",))
-            given(run, ())
+            confirm_run(device, run)
         elif device.limit is not None and not device.confirmed and device.steps >= device.limit:
             run.kind = "late"
         elif left == 0:
@@ -119,15 +120,24 @@ def carry(device, run, leaves):
             count = len(run.prints)
             run.advance()
             if len(run.prints) > count:
-                seen.append(("print", run.prints[-1]))
-    seen.append(last_told(run, leaves))
+                device.seen.append(("print", run.prints[-1]))
+    device.seen.append(last_told(run, leaves))
     device.printed_at = tuple([device.spot(place) for place in run.printed[printed:]])
     device.kind = device.run.kind if run.kind == "back" else run.kind
     device.reason = run.reason
-    return seen
 
 
-def save_cells(device, run, seen):
+def confirm_run(device, run):
+    if device.holder is not None:
+        device.holder.note_confirm()
+    if not device.confirmed:
+        device.confirmed = True
+        device.confirmed_at = device.steps
+    device.seen.append(("confirm",))
+    given(run, ())
+
+
+def save_cells(device, run):
     """Puts the kept cells into the record, if there is room for them."""
     pairs = tuple(ascending(run.kept_cells()))
     record = {name: device.record[name] for name in device.record}
@@ -136,9 +146,11 @@ def save_cells(device, run, seen):
     if len(record) > MOST_KEPT:
         fault(run, "full")
         return
+    if device.holder is not None:
+        device.holder.note_save(record)
     for name, word in pairs:
         device.record[name] = word
-    seen.append(("save", pairs))
+    device.seen.append(("save", pairs))
     given(run, ())
 
 

@@ -229,6 +229,8 @@ class Language(unittest.TestCase):
         for name, node in nodes(ast.ExceptHandler):
             self.assertIn(ast.unparse(node.type), own + ["KeyError", "ZeroDivisionError"])
         for name, node in nodes(ast.Raise):
+            if node.exc is None:
+                continue
             self.assertIsInstance(node.exc, ast.Call)
             self.assertIn(node.exc.func.id, own + ["TypeError"])
 
