@@ -1,7 +1,7 @@
 """Devices: images in two slots of a flash memory, one of them sure, the other one tried."""
 
 from romwright.flash import check_power, Flash, newest, Power, write_note
-from romwright.holding import check_met, check_ready, Holder, meet_held, staleness, switch_off
+from romwright.holding import check_met, check_ready, confirm_note, Holder, meet_held, save_note, staleness, switch_off
 from romwright.image import check_secret, Image, refusal
 from romwright.machine import Board
 from romwright.maps import lines_at_run
@@ -82,6 +82,12 @@ class Device(Holder):
             return reason
         note = self.note
         return staleness(words[3], words[2], note.level, self.flash.slot_words(note.sure)[2])
+
+    def note_save(self, record):
+        save_note(self, record)
+
+    def note_confirm(self):
+        confirm_note(self)
 
     def last_note(self):
         return self.note

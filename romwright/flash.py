@@ -192,9 +192,16 @@ def record_in(words):
     return record
 
 
+def note_in(words):
+    """The note of a block, None if it is not whole."""
+    if not is_whole_note(words):
+        return None
+    return Note(words[1], words[2], words[3], words[4], record_in(words))
+
+
 def newest(flash):
     """(block, note) of the newest note, or None."""
-    first, second = [Note.from_words(flash.block_words(block)) for block in NOTE_BLOCKS]
+    first, second = [note_in(flash.block_words(block)) for block in NOTE_BLOCKS]
     if first is None and second is None:
         return None
     if second is None or (first is not None and first.serial == (second.serial + 1) % 3):

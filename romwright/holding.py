@@ -23,18 +23,20 @@ class Holder:
         # The lone device or board of the last start; None if the power was lost since then.
         self.inner = None
 
-    def note_save(self, record):
-        """Writes a note with the record of a run that saves."""
-        note = self.last_note()
-        self.keep_note(note.sure, note.tries, note.level, record)
 
-    def note_confirm(self):
-        """Writes a note by which the release on trial is sure."""
-        if self.trial:
-            note = self.last_note()
-            level = greatest_of([note.level, self.level_in(self.slot)])
-            self.keep_note(self.slot, 0, level, note.record)
-            self.trial = False
+def save_note(holder, record):
+    """Writes a note with the record of a run that saves."""
+    note = holder.last_note()
+    holder.keep_note(note.sure, note.tries, note.level, record)
+
+
+def confirm_note(holder):
+    """Writes a note by which the release on trial is sure."""
+    if holder.trial:
+        note = holder.last_note()
+        level = greatest_of([note.level, holder.level_in(holder.slot)])
+        holder.keep_note(holder.slot, 0, level, note.record)
+        holder.trial = False
 
 
 def check_met(holder, event):

@@ -10,7 +10,7 @@ TAG_FACTOR = 65521
 CHECK = (9, 10, 11)
 TAG = (12, 13, 14, 15)
 # Whether an image is whole, and who made it, is told of all words but those that tell it.
-UNCHECKED = CHECK + TAG
+UNCHECKED = (9, 10, 11, 12, 13, 14, 15)
 
 
 class Image:

@@ -1,7 +1,7 @@
 """Lives by names, turns for devices, and courses as text."""
 
 from romwright.flash import Note
-from romwright.holding import check_met, check_ready, Holder, meet_held, staleness, switch_off
+from romwright.holding import check_met, check_ready, confirm_note, Holder, meet_held, save_note, staleness, switch_off
 from romwright.image import image_of
 from romwright.items import is_count
 from romwright.lay import lay
@@ -55,6 +55,12 @@ class Life(Holder):
             self.releases[slot] = None
         switch_off(self)
         raise PowerLost(())
+
+    def note_save(self, record):
+        save_note(self, record)
+
+    def note_confirm(self):
+        confirm_note(self)
 
     def last_note(self):
         return self.last
