@@ -208,20 +208,21 @@ class Steady(Checks):
         names = [f"s{k}" for k in range(8)]
         main = code("main", [("push", 1), ("ret",)], [("begin", 0)])
 
-        def picked(units, items):
+        def picked(items):
+            """So many items in the last one of 16 sections."""
             rows = [unit("app", main)]
-            rows += [unit(f"u{k}", *[cells(name, "const", [0] * items) for name in names[:4]]) for k in range(units)]
+            for number in range(4):
+                rows.append(unit(f"u{number}", *[cells(name, "const", [0] * (items if (number, name) == (3, "s3") else 115))
+                                                 for name in names[:4]]))
             take = "free fb in flash align 1 fill 0 take *.*"
             lines = ["region flash rom 16 2032", "place text in flash align 1 fill 0 take app.*", take]
             return pick(Script([*lines, "entry begin", "keep *.*"]), rows)
 
-        linked = link(lay(picked(4, 110), 1000))
-        size = len(linked.content) + len(linked.map)
-        self.assertLess(size, 2048 + 200)
-        # One more word for each of 16 sections.
-        items = 110 + (2048 - size) // 16
-        self.assertIsNotNone(steady(picked(4, items), 1000, ()))
-        self.fails(TooMany, 2048, steady, picked(4, items + 1), 1000, ())
+        linked = link(lay(picked(0), 1000))
+        items = 2048 - len(linked.content) - len(linked.map)
+        self.assertTrue(0 < items < 120, items)
+        self.assertIsNotNone(steady(picked(items), 1000, ()))
+        self.fails(TooMany, 2048, steady, picked(items + 1), 1000, ())
 
     def test_against_all_layings(self):
         rng = random.Random(13)

@@ -3,11 +3,14 @@
 import unittest
 
 from checks import Checks, code, kept, unit
+from making import made_picked
 from releases import HOMES, image, made_image, made_units, plain_units, program_of, SECRET, seeded
 from romwright.device import Device, set_limit
 from romwright.flash import limit_power, newest, Note, write_note
-from romwright.image import Image
+from romwright.image import Image, image_of
 from romwright.joining import joined
+from romwright.lay import layings
+from romwright.link import link
 from romwright.named import Lone
 from romwright.plain import BadEvent, BadHomes, BadImage, BadLimit, BadPower, BadSecret, NoSlot, NotNow, PowerLost
 from romwright.plain import Refused, RomError, Stale
@@ -528,6 +531,35 @@ class Losses(Checks):
                 except RomError as error:
                     if isinstance(error, PowerLost):
                         self.assertEqual((made.kind, made.trial), ("off", False))
+
+
+class Overlays(Checks):
+    def test_programs_by_chance(self):
+        met = 0
+        for seed in range(60):
+            script, units, archives, picked = made_picked(seed)
+            rng = seeded("overlays", seed)
+            homes = rng.choice([(3000, 40000), (40000, 3000)])
+            try:
+                words = image_of(link(rng.choice(list(layings(picked, homes[0])))), product=7, version=1, level=0, secret=1)
+            except (RomError, IndexError):
+                continue
+            made = Device(words, product=7, secret=1, homes=homes)
+            lone = Lone(picked.program)
+            for _ in range(10):
+                events = list(lone.events((0, 1, 7)))
+                event = rng.choice(events[1:] or events)
+                told = lone.meet(event)
+                if told[-1] == ("hangs",):
+                    break
+                self.assertEqual(made.meet(event), told)
+                self.assertEqual((made.kind, made.steps, made.record), (lone.kind, lone.steps, lone.record))
+                self.assertEqual((made.offers, made.wants), (lone.offers, lone.wants))
+                if len(script.overlays) == 0:
+                    self.assertEqual(made.printed_at, lone.printed_at)
+                met += 1
+            self.assertEqual(made.read_units(), picked.kept_units())
+        self.assertGreater(met, 300)
 
 
 class FromTheFlash(Checks):
